@@ -1,0 +1,1 @@
+"""Bestsbook: a club's bests, whenever they are told."""

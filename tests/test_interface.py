@@ -1,0 +1,50 @@
+"""The interface: names, arguments, and the file in which each is defined."""
+
+import importlib
+import inspect
+import unittest
+
+FUNCTIONS = {
+    "marks": {
+        "is_event": "(thing)",
+        "better": "(one, other, way='less')",
+        "best_of": "(marks, way='less', default=None)",
+    },
+}
+CLASSES = {
+    "rules": {
+        "Rules": {
+            "__init__": "(self, limits=None, up=True, wind=20, shares=True)",
+            "__eq__": "(self, other)",
+            "__len__": "(self)",
+            "__repr__": "(self)",
+            "classes_of": "(self, age)",
+        },
+    },
+}
+
+
+class Interface(unittest.TestCase):
+
+    def assert_defined(self, value, file, arguments):
+        self.assertEqual(value.__module__, file.__name__)
+        self.assertEqual(str(inspect.signature(value)), arguments)
+
+    def test_functions(self):
+        for name, functions in FUNCTIONS.items():
+            file = importlib.import_module("bestsbook." + name)
+            for function, arguments in functions.items():
+                self.assert_defined(vars(file)[function], file, arguments)
+
+    def test_classes(self):
+        for name, classes in CLASSES.items():
+            file = importlib.import_module("bestsbook." + name)
+            for kind, methods in classes.items():
+                self.assertEqual(vars(file)[kind].__module__, file.__name__)
+                for method, arguments in methods.items():
+                    # vars, for a method that is only inherited does not do.
+                    self.assert_defined(vars(vars(file)[kind])[method], file, arguments)
+
+
+if __name__ == "__main__":
+    unittest.main()
