@@ -2,6 +2,9 @@
 
 LETTERS = "abcdefghijklmnopqrstuvwxyz"
 LONGEST_NAME = 8
+MOST_DAY = 40000
+LAST_HOUR = 23
+MOST_WIND = 99
 
 
 def is_number(thing):
@@ -21,3 +24,18 @@ def is_name(thing):
         return False
     # islower and isalpha would take letters beyond a to z as well.
     return all([letter in LETTERS for letter in thing])
+
+
+def is_day(thing):
+    """Tell whether a thing is a day."""
+    return is_number_from(thing, -MOST_DAY, MOST_DAY)
+
+
+def is_hour(thing):
+    """Tell whether a thing is an hour of a day."""
+    return is_number_from(thing, 0, LAST_HOUR)
+
+
+def is_wind(thing):
+    """Tell whether a thing is a wind."""
+    return is_number_from(thing, -MOST_WIND, MOST_WIND)

@@ -1,12 +1,11 @@
 """The rules of a book: age classes, the wind allowed, shared bests."""
 
 from bestsbook.errors import NoAge, NoRules
-from bestsbook.kinds import is_number_from
+from bestsbook.kinds import is_number_from, is_wind
 
 MOST_LIMITS = 4
 LEAST_LIMIT = 1
 MOST_LIMIT = 99
-MOST_WIND = 99
 MOST_AGE = 300
 
 
@@ -30,7 +29,7 @@ class Rules:
             raise NoRules("limits is a rising tuple of none to four numbers from 1 to 99")
         if not isinstance(up, bool):
             raise NoRules("up is True or False")
-        if not is_number_from(wind, -MOST_WIND, MOST_WIND):
+        if not is_wind(wind):
             raise NoRules("wind is a number from -99 to 99")
         if not isinstance(shares, bool):
             raise NoRules("shares is True or False")

@@ -21,6 +21,38 @@ CLASSES = {
             "classes_of": "(self, age)",
         },
     },
+    "people": {
+        "Person": {
+            "__init__": "(self, name, born, group='open', team='')",
+            "__eq__": "(self, other)",
+            "__str__": "(self)",
+            "__repr__": "(self)",
+            "age_on": "(self, day)",
+        },
+    },
+    "deeds": {
+        "Deed": {
+            "__init__": "(self, name, event, mark, day, hour=0, wind=0, course='yard')",
+            "__eq__": "(self, other)",
+            "__str__": "(self)",
+            "__repr__": "(self)",
+            "time": "(self)",
+        },
+    },
+    "sheets": {
+        "Sheet": {
+            "__init__": "(self, deeds=None)",
+            "__eq__": "(self, other)",
+            "__len__": "(self)",
+            "__str__": "(self)",
+            "__repr__": "(self)",
+            "at": "(self, place)",
+            "plus": "(self, deed)",
+            "all_deeds": "(self)",
+            "by": "(self, word='time', backward=False)",
+            "has": "(self, thing)",
+        },
+    },
 }
 
 

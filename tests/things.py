@@ -1,7 +1,10 @@
 """Things of every kind that may be handed in, and how a call is refused."""
 
-from bestsbook.errors import Gone, NoMark, NoText
+from bestsbook.deeds import Deed
+from bestsbook.errors import Gone, NoMark, NoPlace, NoText
+from bestsbook.people import Person
 from bestsbook.rules import Rules
+from bestsbook.sheets import Sheet
 
 
 def nested(deep):
@@ -19,7 +22,9 @@ def anything():
         [], [1], [12, 16], ["run", "less", False], [[]], list(range(100)), nested(8),
         {}, {1: 2}, {"run": "less"}, {"a": [1, (2, {})]}, {0: "run", 1: "less", 2: False},
         Rules(), Rules((12, 16)), (Rules(),), [Rules()],
-        NoMark("a text"), NoText(3), Gone(5),
+        Person("ann", 5), Deed("ann", "run", 1234, 5), Sheet(), Sheet([Deed("ann", "run", 1234, 5)]),
+        [Person("ann", 5)], (Deed("ann", "run", 1234, 5), None), {"ann": Sheet()},
+        NoMark("a text"), NoText(3), NoPlace(0), Gone(5),
     ]
 
 
@@ -27,6 +32,15 @@ def but_numbers(least, most):
     """All of anything that is no number from least to most."""
     return [thing for thing in anything()
             if isinstance(thing, bool) or not isinstance(thing, int) or not least <= thing <= most]
+
+
+def but_names():
+    """All of anything that is no name, and texts that are all but one."""
+    good = ("a", "ann", "less", "more")
+    things = [thing for thing in anything() if not (isinstance(thing, str) and thing in good)]
+    others = "AZ09 -_.'`{~\t\n" + "\u00e9\u00df\u03b1\u0131\uff41"
+    return things + ["abcdefghi", b"ann", ["ann"], ("ann",)] + [
+        text for sign in others for text in (sign, sign + "ann", "ann" + sign, "a" + sign + "n")]
 
 
 def but_truths():
@@ -41,3 +55,14 @@ def refused(call, *values, **named):
     except Exception as refusal:
         return refusal.__class__
     return None
+
+
+def check_equal(test, expected, one, other):
+    """Check that two things are equal, or that they are not, asked in every way."""
+    test.assertIs(one == other, expected)
+    test.assertIs(other == one, expected)
+    test.assertIs(one != other, not expected)
+    test.assertIs(other != one, not expected)
+    test.assertIs(one in [other], expected)
+    test.assertIs(other in (None, one), expected or other is None)
+    test.assertIs(one not in [None, other], not expected)
