@@ -10,6 +10,15 @@ FUNCTIONS = {
         "better": "(one, other, way='less')",
         "best_of": "(marks, way='less', default=None)",
     },
+    "joins": {
+        "merged": "(book, one, other)",
+        "joined": "(book, other)",
+    },
+    "lines": {
+        "sheet_text": "(sheet)",
+        "read_sheet": "(text)",
+        "told_all": "(book, sheet, known=None)",
+    },
 }
 CLASSES = {
     "rules": {
@@ -51,6 +60,34 @@ CLASSES = {
             "all_deeds": "(self)",
             "by": "(self, word='time', backward=False)",
             "has": "(self, thing)",
+        },
+    },
+    "book": {
+        "Book": {
+            "__init__": "(self, events, rules=None)",
+            "__eq__": "(self, other)",
+            "__len__": "(self)",
+            "enrol": "(self, person)",
+            "tell": "(self, deed, known=None)",
+            "strike": "(self, number, known)",
+            "restore": "(self, number, known)",
+            "measure": "(self, course, since, till, known)",
+            "uphold": "(self, course, known)",
+            "undo": "(self)",
+            "twin": "(self)",
+            "state": "(self, number, known=None)",
+            "stints": "(self, event, group=None, place=None, known=None)",
+            "is_stints": "(self, thing, event, group=None, place=None, known=None)",
+            "holders": "(self, event, group=None, place=None, day=None, known=None)",
+            "why": "(self, number, event, group=None, place=None, known=None)",
+            "to_break": "(self, event, group=None, place=None, day=None, known=None)",
+            "bests_of": "(self, number)",
+        },
+    },
+    "desk": {
+        "Desk": {
+            "__init__": "(self)",
+            "say": "(self, line)",
         },
     },
 }

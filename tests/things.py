@@ -1,6 +1,8 @@
 """Things of every kind that may be handed in, and how a call is refused."""
 
+from bestsbook.book import Book
 from bestsbook.deeds import Deed
+from bestsbook.desk import Desk
 from bestsbook.errors import Gone, NoMark, NoPlace, NoText
 from bestsbook.people import Person
 from bestsbook.rules import Rules
@@ -25,6 +27,7 @@ def anything():
         Person("ann", 5), Deed("ann", "run", 1234, 5), Sheet(), Sheet([Deed("ann", "run", 1234, 5)]),
         [Person("ann", 5)], (Deed("ann", "run", 1234, 5), None), {"ann": Sheet()},
         NoMark("a text"), NoText(3), NoPlace(0), Gone(5),
+        Book((("run", "less", False),)), (Book((("run", "less", False),)),), Desk(),
     ]
 
 
@@ -43,6 +46,16 @@ def but_names():
         text for sign in others for text in (sign, sign + "ann", "ann" + sign, "a" + sign + "n")]
 
 
+def but_days():
+    """All of anything that is no day, and numbers just beyond."""
+    return but_numbers(-40000, 40000) + [-40001, 40001]
+
+
+def but(*kinds):
+    """All of anything that is of none of these classes."""
+    return [thing for thing in anything() if not isinstance(thing, kinds)]
+
+
 def but_truths():
     """All of anything that is no truth."""
     return [thing for thing in anything() if not isinstance(thing, bool)]
@@ -54,6 +67,15 @@ def refused(call, *values, **named):
         call(*values, **named)
     except Exception as refusal:
         return refusal.__class__
+    return None
+
+
+def refusal(call, *values, **named):
+    """What refuses a call, as (class, field): the field is None where the class has none."""
+    try:
+        call(*values, **named)
+    except Exception as error:
+        return (error.__class__, *vars(error).values()) if vars(error) else (error.__class__, None)
     return None
 
 
